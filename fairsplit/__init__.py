@@ -1,0 +1,1 @@
+"""Fairsplit: goods divided by bids."""
