@@ -16,6 +16,20 @@ FUNCTIONS = {
         "fair": ["bids", "heaps", "sums"],
     },
     "heaps.py": {"in_heaps": ["bids"]},
+    "rooms.py": {"in_rooms": ["bids"]},
+    "notes.py": {"shown": ["bids"], "read": ["text"]},
+}
+
+TABLE = {
+    "come": ["self", "row"],
+    "leave": ["self", "person"],
+    "put": ["self", "column"],
+    "take": ["self", "good"],
+    "bid": ["self", "person", "good", "amount"],
+    "back": ["self"],
+    "rows": ["self"],
+    "in_heaps": ["self"],
+    "in_rooms": ["self"],
 }
 
 
@@ -37,6 +51,14 @@ class Interface(unittest.TestCase):
                 with self.subTest(file=file, name=name):
                     self.assertIn(name, found)
                     self.assertEqual([arg.arg for arg in found[name].args.args], arguments)
+
+    def test_methods_and_their_arguments(self):
+        body = defined("tables.py", ast.ClassDef)["Table"].body
+        found = {node.name: node for node in body if isinstance(node, ast.FunctionDef)}
+        for name, arguments in TABLE.items():
+            with self.subTest(name=name):
+                self.assertIn(name, found)
+                self.assertEqual([arg.arg for arg in found[name].args.args], arguments)
 
     def test_it_is_a_package(self):
         self.assertTrue((PACKAGE / "__init__.py").is_file())
